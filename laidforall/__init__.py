@@ -1,0 +1,1 @@
+"""Laidforall: style sheets and page breaking, judged for all trees."""
