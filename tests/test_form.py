@@ -21,7 +21,7 @@ METHODS = set("""
 append clear copy count endswith extend find get index insert isalnum isalpha isdigit islower
 isspace isupper items join keys ljust lower lstrip partition pop remove replace reverse rfind
 rjust rpartition rsplit rstrip setdefault split splitlines startswith strip update upper values
-zfill bit_length
+zfill bit_length removesuffix
 """.split())
 
 DOUBLE = set("""
@@ -207,16 +207,18 @@ class FormTest(unittest.TestCase):
 
     def test_methods_and_attributes(self):
         methods = set()
+        values = set()
         for _, node in self.all_nodes():
             if isinstance(node, ast.ClassDef):
                 methods |= {part.name for part in node.body if isinstance(part, ast.FunctionDef)}
+                values |= {part.targets[0].id for part in node.body if isinstance(part, ast.Assign)}
         stored = {node.attr for _, node in self.all_nodes()
                   if isinstance(node, ast.Attribute) and isinstance(node.ctx, ast.Store)}
-        self.assertEqual(methods & stored, set())
+        self.assertEqual((methods | values) & stored, set())
         self.assertEqual(stored & (METHODS - {"count", "index", "find", "get", "copy"}), set())
         for name, node in self.all_nodes():
             if isinstance(node, ast.Attribute) and isinstance(node.ctx, ast.Load):
-                self.assertIn(node.attr, methods | stored | METHODS, name)
+                self.assertIn(node.attr, methods | stored | values | METHODS, name)
             if isinstance(node, ast.Call) and isinstance(node.func, ast.Attribute):
                 self.assertIn(node.func.attr, methods | METHODS, (name, node.lineno))
                 if node.func.attr not in methods:
