@@ -89,6 +89,13 @@ class Steps:
                 inner += tie[1]
         return found
 
+    def line_of(self, start, end):
+        """Return the line of these pieces, or None if it may not be."""
+        for line in self.lines_from(start):
+            if line[0] == end:
+                return line
+        return None
+
     def moves(self, state):
         """Return the list of the moves (step, cost, next state) of a state, in order."""
         found = []
