@@ -1,13 +1,16 @@
 """The questions about all trees for which a walk is made (see walking.py).
 
-A contest is a list of rows of a sheet for one property, from the greatest
-rank to the least, as tuples (bit, value, index): the bit of the pattern of
-the row, its value and its index.
+A question is cut into goals. A goal chooses, for some properties of one or
+two sheets, how each comes to its value: by which row, or by the default. The
+rows that are not chosen can only stand in the way, wherever they would give
+another value. So of two trees that have come equally far for the chosen rows,
+the one in which less of the others has been reached is at least as good, and
+the walk can leave out the other one.
 """
 
 from laidforall.patterns import ANY_KIND
-from laidforall.reaching import Reaching, kinds_below
-from laidforall.styles import DEFAULTS, HANDED_DOWN, PROPERTIES, counts, default_of
+from laidforall.reaching import Reaching
+from laidforall.styles import HANDED_DOWN, PROPERTIES, counts, default_of
 
 
 def rows_for(sheet, name):
@@ -19,135 +22,167 @@ def rows_for(sheet, name):
     return [parts[3] for parts in sorted(ranks, reverse=True)]
 
 
-def _contest_of(reaching, sheet, indexes):
-    """Return the contest of the rows with these indexes."""
-    contest = []
-    for index in indexes:
-        row = sheet.row(index)
-        contest.append((reaching.bit_of(row[0]), row[2], index))
-    return contest
+class Choice:
+    """How a property comes to a value: by a row, or by the default if good is None.
+
+    The pattern good is that of the row. The patterns strong are those of rows
+    that must not match where it does, the patterns other those of all rows
+    that would give another value. If the value is handed down, it may have
+    been given further up.
+    """
+
+    def __init__(self, value, good, strong, other, is_handed):
+        self.value = value
+        self.good = good
+        self.strong = strong
+        self.other = other
+        self.is_handed = is_handed
+
+    def excludes(self, later):
+        """Tell whether the row of another choice cannot match below where this one was made."""
+        return later.good is not None and later.good in self.other
+
+    def excludes_beside(self, beside):
+        """Tell whether the row of another choice cannot match where this one is made."""
+        if self.good is None:
+            return self.excludes(beside)
+        return beside.good is not None and beside.good in self.strong
 
 
-def _bits_of(contest):
-    """Return the mask of the patterns of a contest."""
-    mask = 0
-    for entry in contest:
-        mask |= entry[0]
-    return mask
+def choices_for(sheet, name):
+    """Return the choices for a property of a sheet, the default last."""
+    rows = [sheet.row(index) for index in rows_for(sheet, name)]
+    is_handed = name in HANDED_DOWN
+    found = []
+    for at, row in enumerate(rows):
+        strong = [other[0] for other in rows[:at] if other[2] != row[2]]
+        others = [other[0] for other in rows if other[2] != row[2]]
+        found.append(Choice(row[2], row[0], strong, others if is_handed else [], is_handed))
+    default = default_of(name)
+    others = [other[0] for other in rows if other[2] != default]
+    found.append(Choice(default, None, [], others, is_handed))
+    return found
 
 
-def _winner(contest, matched):
-    """Return the entry of the row that wins, or None."""
-    for entry in contest:
-        if matched & entry[0]:
-            return entry
-    return None
+def _can_meet(one, other):
+    """Tell whether two choices can hold together, as far as their patterns tell."""
+    if not one.excludes_beside(other) and not other.excludes_beside(one):
+        return True
+    if not one.is_handed:
+        return False
+    # A default is chosen above all rows.
+    if one.good is None or other.good is None:
+        return False
+    return not one.excludes(other) or not other.excludes(one)
 
 
-def _value_of(contest, matched, otherwise):
-    """Return the value of the row that wins, or another one."""
-    entry = _winner(contest, matched)
-    return otherwise if entry is None else entry[1]
+def _chain_mask(reaching, patterns):
+    """Return (mask of some whole patterns, mask of all their beginnings)."""
+    whole = 0
+    chain = 0
+    for pattern in patterns:
+        whole |= reaching.bit_of(pattern)
+        chain |= reaching.chain_of(pattern)
+    return whole, chain
 
 
-class StyleQuestion:
-    """Which styles are possible for a kind? An answer is a style."""
+class Goal:
+    """An element of a wanted kind at which some choices hold together.
 
-    def __init__(self, sheet, grammar, kind):
+    The attributes helpful and harmful are the masks of the beginnings that
+    the chosen rows need, and of those that stand in their way; above has a bit
+    for each choice that holds already at the root.
+    """
+
+    def __init__(self, grammar, choices, wanted):
         self.reaching = Reaching()
-        self.wanted = [kind]
-        self._contests = {}
-        handed = 0
+        self.wanted = wanted
+        self.helpful = 0
+        self.harmful = 0
+        self.above = 0
+        self._needed = 0
+        self._parts = []
         every = 0
-        for name in PROPERTIES:
-            contest = _contest_of(self.reaching, sheet, rows_for(sheet, name))
-            self._contests[name] = contest
-            every |= _bits_of(contest)
-            if name in HANDED_DOWN:
-                handed |= _bits_of(contest)
-        below = kinds_below(grammar)
-        self.ends = {other: handed if kind in below[other] else 0 for other in grammar}
-        self.ends[kind] = every
+        handed = 0
+        for number, choice in enumerate(choices):
+            mask = self._add_choice(number, choice)
+            every |= mask
+            if choice.is_handed:
+                handed |= mask
+        self.ends = {kind: every if kind in wanted else handed for kind in grammar}
 
-    def _values(self, names, matched, otherwise):
-        """Return the values of some properties; otherwise holds those without a winner."""
-        found = []
-        for name, value in zip(names, otherwise):
-            found.append(_value_of(self._contests[name], matched, value))
-        return tuple(found)
+    def _add_choice(self, number, choice):
+        """Note the masks of a choice; return the mask of all its patterns."""
+        chosen = [] if choice.good is None else [choice.good]
+        good, helpful = _chain_mask(self.reaching, chosen)
+        strong, harmful = _chain_mask(self.reaching, choice.strong)
+        other, harmful_below = _chain_mask(self.reaching, choice.other)
+        self.helpful |= helpful
+        self.harmful |= harmful | harmful_below
+        if choice.good is None:
+            self.above |= 1 << number
+        if not choice.is_handed:
+            self._needed |= good
+        self._parts.append((1 << number, good, strong, other, choice.is_handed))
+        return good | strong | other
 
-    def handed(self, matched, above):
-        """Return the values that are handed down."""
-        otherwise = DEFAULTS if above is None else above
-        return self._values(HANDED_DOWN, matched, otherwise)
-
-    def shown(self, kind, matched, above):
-        """Return the style of an element of the wanted kind, otherwise None."""
-        if kind not in self.wanted:
-            return None
-        many = len(HANDED_DOWN)
-        rest = self._values(PROPERTIES[many:], matched, DEFAULTS[many:])
-        return self.handed(matched, above) + rest
-
-
-class WinQuestion:
-    """Does a row win somewhere? The answer is True."""
-
-    def __init__(self, sheet, grammar, index):
-        row = sheet.row(index)
-        indexes = rows_for(sheet, row[1])
-        self.reaching = Reaching()
-        # Rows of a lesser rank make no difference.
-        stronger = indexes[:indexes.index(index) + 1]
-        self._contest = _contest_of(self.reaching, sheet, stronger)
-        self._index = index
-        named = row[0].tests[-1][0]
-        self.wanted = [kind for kind in grammar if named in (ANY_KIND, kind)]
-        every = _bits_of(self._contest)
-        self.ends = {kind: every if kind in self.wanted else 0 for kind in grammar}
+    def _held(self, matched, above):
+        """Return the mask of the choices that hold at an element."""
+        held = 0
+        for bit, good, strong, other, _ in self._parts:
+            if matched & good and not matched & strong:
+                held |= bit
+            elif not matched & other:
+                held |= above & bit
+        return held
 
     def handed(self, matched, above):
-        """Return an empty tuple: what is handed down makes no difference."""
-        return ()
+        """Return the mask of the choices that hold for a child as far as it changes nothing."""
+        held = self._held(matched, above)
+        for bit, _, _, _, is_handed in self._parts:
+            if not is_handed:
+                held = held & ~bit | self.above & bit
+        return held
 
-    def shown(self, kind, matched, above):
-        """Return True if the row wins at an element, otherwise None."""
-        entry = _winner(self._contest, matched)
-        return True if entry is not None and entry[2] == self._index else None
+    def is_shown(self, kind, matched, above):
+        """Tell whether all choices hold at an element of a wanted kind."""
+        return kind in self.wanted and self._held(matched, above) == (1 << len(self._parts)) - 1
+
+    def can_be_shown(self):
+        """Tell whether some element can pass the last tests that it must pass."""
+        for kind in self.wanted:
+            for _, passed in self.reaching.letters(kind):
+                if passed & self._needed == self._needed:
+                    return True
+        return False
 
 
-class PartQuestion:
-    """Do two sheets part at some element in one property? The answer is True."""
+def style_goal(grammar, kind, choices):
+    """Return the goal of an element of a kind with some choices."""
+    return Goal(grammar, choices, [kind])
 
-    def __init__(self, first, second, grammar, name):
-        self.reaching = Reaching()
-        self._first = _contest_of(self.reaching, first, rows_for(first, name))
-        self._second = _contest_of(self.reaching, second, rows_for(second, name))
-        self._name = name
-        self.wanted = [kind for kind in grammar if counts(name, grammar[kind][0])]
-        every = _bits_of(self._first + self._second)
-        self.ends = {kind: 0 for kind in grammar}
-        for kind in grammar:
-            if kind in self.wanted or name in HANDED_DOWN:
-                self.ends[kind] = every
 
-    def _values(self, matched, above):
-        """Return the pair of the values with the one and the other sheet."""
-        if above:
-            first, second = above
-        else:
-            first = second = default_of(self._name)
-        return _value_of(self._first, matched, first), _value_of(self._second, matched, second)
+def win_goal(sheet, grammar, index):
+    """Return the goal of an element at which a row wins."""
+    row = sheet.row(index)
+    indexes = rows_for(sheet, row[1])
+    stronger = [sheet.row(other)[0] for other in indexes[:indexes.index(index)]]
+    named = row[0].tests[-1][0]
+    wanted = [kind for kind in grammar if named in (ANY_KIND, kind)]
+    return Goal(grammar, [Choice(row[2], row[0], stronger, [], False)], wanted)
 
-    def handed(self, matched, above):
-        """Return the pair of values that is handed down, or an empty tuple."""
-        if self._name not in HANDED_DOWN:
-            return ()
-        return self._values(matched, above)
 
-    def shown(self, kind, matched, above):
-        """Return True if the property counts and differs, otherwise None."""
-        if kind not in self.wanted:
-            return None
-        first, second = self._values(matched, above)
-        return True if first != second else None
+def parting_goals(first, second, grammar, name):
+    """Return the list of the goals of an element at which two sheets part in a property."""
+    wanted = [kind for kind in grammar if counts(name, grammar[kind][0])]
+    found = []
+    for one in choices_for(first, name):
+        for other in choices_for(second, name):
+            if one.value != other.value and _can_meet(one, other):
+                found.append(Goal(grammar, [one, other], wanted))
+    return found
+
+
+def style_choices(sheet):
+    """Return the list of the choices for each property, in the order of the properties."""
+    return [choices_for(sheet, name) for name in PROPERTIES]

@@ -43,6 +43,18 @@ class Reaching:
 
     def bit_of(self, pattern):
         """Return the bit of a whole pattern; its beginnings are added if they are new."""
+        return 1 << self._beginnings(pattern)[-1]
+
+    def chain_of(self, pattern):
+        """Return the mask of all beginnings of a pattern; those that are new are added."""
+        mask = 0
+        for number in self._beginnings(pattern):
+            mask |= 1 << number
+        return mask
+
+    def _beginnings(self, pattern):
+        """Return the numbers of the beginnings of a pattern, the shortest first."""
+        found = []
         number = -1
         for at, test in enumerate(pattern.tests):
             link = "" if at == 0 else pattern.links[at - 1]
@@ -50,7 +62,8 @@ class Reaching:
             if key not in self._numbers:
                 self._numbers[key] = self._added_test(number, link, test)
             number = self._numbers[key]
-        return 1 << number
+            found.append(number)
+        return found
 
     def _added_test(self, before, link, test):
         """Add the beginning with one test behind another one, or -1; return its number."""

@@ -1,7 +1,7 @@
 """Questions about a sheet, or two, and all trees of a grammar."""
 
 from laidforall.errors import TooLarge, Unknown
-from laidforall.questions import PartQuestion, StyleQuestion, WinQuestion, rows_for
+from laidforall.questions import parting_goals, rows_for, style_choices, style_goal, win_goal
 from laidforall.styles import PROPERTIES
 from laidforall.trees import all_places
 from laidforall.walking import Walk
@@ -13,16 +13,36 @@ def possible_styles(sheet, grammar, kind):
     """Return the list of the styles that are possible for a kind, in order."""
     if kind not in grammar:
         raise Unknown(kind)
-    walk = Walk(grammar, StyleQuestion(sheet, grammar, kind))
-    walk.look()
-    return sorted(walk.found)
+    found = {}
+    _add_styles(grammar, kind, [], style_choices(sheet), found)
+    return sorted(found)
+
+
+def _add_styles(grammar, kind, chosen, left, found):
+    """Note the styles of all choices that begin with those chosen and can hold together."""
+    style = tuple([choice.value for choice in chosen])
+    if not left and style in found:
+        return
+    # A property without rows takes part in no goal, so nothing new is asked.
+    is_asked = not chosen or chosen[-1].good is not None or chosen[-1].other != []
+    if is_asked and _shown_first(grammar, [style_goal(grammar, kind, chosen)], None) is None:
+        return
+    if not left:
+        found[style] = True
+        return
+    for choice in left[0]:
+        _add_styles(grammar, kind, chosen + [choice], left[1:], found)
 
 
 def tree_with_style(sheet, grammar, kind, style):
     """Return (tree, place) of an element of a kind with a style, or None."""
     if kind not in grammar:
         raise Unknown(kind)
-    return _example(grammar, StyleQuestion(sheet, grammar, kind), style)
+    chosen = [[]]
+    for value, choices in zip(style, style_choices(sheet)):
+        fitting = [choice for choice in choices if choice.value == value]
+        chosen = [some + [choice] for some in chosen for choice in fitting]
+    return _shown_first(grammar, [style_goal(grammar, kind, some) for some in chosen], None)
 
 
 def tree_won(sheet, grammar, index):
@@ -30,7 +50,7 @@ def tree_won(sheet, grammar, index):
 
     Raise NoSuchNumber, as the sheet does, if there is no such row.
     """
-    return _example(grammar, WinQuestion(sheet, grammar, index), True)
+    return _shown_first(grammar, [win_goal(sheet, grammar, index)], None)
 
 
 def idle_rows(sheet, grammar):
@@ -41,16 +61,14 @@ def idle_rows(sheet, grammar):
 def first_parting(first, second, grammar):
     """Return (tree, place, property) where two sheets part, or None if they are alike."""
     best = None
-    fewest = 0
+    most = None
     for name in PROPERTIES:
-        found = _parting(first, second, grammar, name)
+        found = _parting(first, second, grammar, name, most)
         if found is not None:
             tree, place = found
-            many = len(list(all_places(tree)))
+            best = (tree, place, name)
             # An earlier property stays: it may differ at the same element.
-            if best is None or many < fewest:
-                best = (tree, place, name)
-                fewest = many
+            most = _size_of(tree) - 1
     return best
 
 
@@ -59,7 +77,7 @@ def needless_rows(sheet, grammar):
     found = []
     for index in range(len(sheet)):
         name = sheet.row(index)[1]
-        if _parting(sheet, sheet.without([index]), grammar, name) is None:
+        if _parting(sheet, sheet.without([index]), grammar, name, None) is None:
             found.append(index)
     return found
 
@@ -79,7 +97,7 @@ def _least_rows_for(sheet, grammar, name):
     own = rows_for(sheet, name)
     for kept in _selections(sorted(own)):
         others = [index for index in own if index not in kept]
-        if _parting(sheet, sheet.without(others), grammar, name) is None:
+        if _parting(sheet, sheet.without(others), grammar, name, None) is None:
             return kept
     return own
 
@@ -92,20 +110,32 @@ def _selections(indexes):
     return [pair[1] for pair in sorted([(len(some), some) for some in found])]
 
 
-def _example(grammar, question, answer):
-    """Return (tree, place) of an element that gives this answer, or None."""
-    walk = Walk(grammar, question)
-    walk.look(answer)
-    if answer not in walk.found:
-        return None
-    return walk.shown_by(answer)
+def _size_of(tree):
+    """Return the number of elements of a tree."""
+    return len(list(all_places(tree)))
 
 
-def _parting(first, second, grammar, name):
-    """Return (tree, place) where two sheets part in a property, or None."""
+def _shown_first(grammar, goals, most):
+    """Return (tree, place) for the goal that needs the fewest elements, or None.
+
+    No more elements than most are tried, unless it is None.
+    """
+    best = None
+    for goal in goals:
+        if goal.can_be_shown():
+            walk = Walk(grammar, goal)
+            found = walk.found(most)
+            if found is not None:
+                best = found
+                most = _size_of(found[0]) - 1
+    return best
+
+
+def _parting(first, second, grammar, name, most):
+    """Return (tree, place) where two sheets part in a property, with at most so many elements, or None."""
     if _told_rows(first, name) == _told_rows(second, name):
         return None
-    return _example(grammar, PartQuestion(first, second, grammar, name), True)
+    return _shown_first(grammar, parting_goals(first, second, grammar, name), most)
 
 
 def _told_rows(sheet, name):

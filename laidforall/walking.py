@@ -4,15 +4,14 @@ A slot is a place for a next element, as a tuple (parent, inside, child,
 behind, above): the kind of the parent ("" for the root), the masks of the
 beginnings that an element there may match because of what stands around it,
 because of its parent and because of its elder sibling, and what the parent
-hands down (None for the root). What can follow hangs on the slot alone. An
-element in a slot opens a slot among its own children and one behind it.
-So each tree that is met grows by one element at a time, and the first one
-that shows something has the fewest elements.
+hands down. What can follow hangs on the slot alone. An element in a slot
+opens a slot among its own children and one behind it. So each tree that is
+met grows by one element at a time, and the first one that shows something has
+the fewest elements.
 
-The walk is made for a question: an object with the attributes reaching,
-ends (for each kind, the mask of the whole patterns that matter there) and
-wanted (the kinds at which it may be answered), and the methods shown (the
-answer that an element gives, or None) and handed (what it hands down).
+The walk is made for a goal (see questions.py). A slot is left out if an
+earlier one is at least as good: if more of what is helpful, and less of what
+is harmful, may be matched there and has been handed down.
 """
 
 from laidforall.patterns import BEHIND, CHILD, INSIDE, LINKS
@@ -20,80 +19,111 @@ from laidforall.reaching import Prospects, kinds_below
 
 
 class Walk:
-    """The walk for a question. The attribute found maps each answer to its step.
+    """The walk for a goal.
 
     A step is an element that was put into a slot: (step before, whether it is
     a child of the element of that step or its next sibling, kind, mark).
     """
 
-    def __init__(self, grammar, question):
-        self.found = {}
-        self._question = question
-        self._reaching = question.reaching
-        self._prospects = Prospects(grammar, question.reaching, question.ends)
+    def __init__(self, grammar, goal):
+        self._goal = goal
+        self._reaching = goal.reaching
+        self._prospects = Prospects(grammar, goal.reaching, goal.ends)
         self._inner = {kind: grammar[kind][1] for kind in grammar}
         self._inner[""] = (grammar.root,)
-        self._letters = {kind: question.reaching.letters(kind) for kind in grammar}
-        self._leading = _leading_kinds(grammar, question.wanted)
+        self._letters = {kind: goal.reaching.letters(kind) for kind in grammar}
+        self._leading = _leading_kinds(grammar, goal.wanted)
         self._ends = 0
         for kind in grammar:
-            self._ends |= question.ends[kind]
+            self._ends |= goal.ends[kind]
         self._steps = []
         self._slots = []
+        self._met = {}
         self._known = {}
         self._moot_masks = {}
         self._leads = {}
 
-    def look(self, answer=None):
-        """Walk until this answer is found, or through all slots."""
-        self._open(("", self._reaching.firsts, 0, 0, None), -1, True)
+    def found(self, most=None):
+        """Return (tree, place) for the goal, with at most this many elements, or None."""
+        self._open(("", self._reaching.firsts, 0, 0, self._goal.above), -1, True, 0)
         at = 0
-        while at < len(self._slots) and (answer is None or answer not in self.found):
-            self._fill(at)
+        while at < len(self._slots):
+            size = self._slots[at][3]
+            if most is not None and size >= most:
+                return None
+            if self._fill(at):
+                return self._shown()
             at += 1
+        return None
 
     def _fill(self, at):
-        """Put each element into a slot that makes a difference there."""
+        """Put the elements into a slot that make a difference there; tell whether one shows the goal."""
         parent, inside, child, behind, _ = self._slots[at][0]
-        allowed = inside | child | behind
-        tried = {}
         for kind in self._inner[parent]:
-            for mark, passed in self._letters[kind]:
-                matched = passed & allowed
-                if (kind, matched) not in tried:
-                    tried[(kind, matched)] = True
-                    self._put(at, kind, mark, matched)
+            for mark, matched in self._best_letters(kind, inside | child | behind):
+                if self._put(at, kind, mark, matched):
+                    return True
+        return False
+
+    def _best_letters(self, kind, allowed):
+        """Return the pairs (mark, matched) for a kind, without those that are no better than others."""
+        found = []
+        graded = []
+        for mark, passed in self._letters[kind]:
+            exact, merit = self._graded(passed & allowed)
+            if not any([exact == other and old | merit == old for other, old in graded]):
+                graded.append((exact, merit))
+                found.append((mark, passed & allowed))
+        return found
+
+    def _graded(self, mask):
+        """Return (what must be the same in a mask that is as good, what must be in it)."""
+        goal = self._goal
+        exact = mask & goal.helpful & goal.harmful
+        return exact, mask & goal.helpful | goal.harmful & ~mask
 
     def _put(self, at, kind, mark, matched):
-        """Put an element into a slot: note its answer and open the slots it leads to."""
-        slot, before, is_child = self._slots[at]
+        """Put an element into a slot and open the slots it leads to; tell whether it shows the goal."""
+        slot, before, is_child, size = self._slots[at]
         above = slot[4]
         number = len(self._steps)
         self._steps.append((before, is_child, kind, mark))
-        answer = self._question.shown(kind, matched, above)
-        is_new = answer is not None and answer not in self.found
-        if is_new:
-            self.found[answer] = number
+        if self._goal.is_shown(kind, matched, above):
+            return True
+        is_new = False
         if self._leading[kind]:
-            inner = self._inner_slot(slot, kind, matched)
-            is_new = self._open(inner, number, True) or is_new
+            is_new = self._open(self._inner_slot(slot, kind, matched), number, True, size + 1)
         if slot[0] != "":
-            is_new = self._open(self._next_slot(slot, matched), number, False) or is_new
+            is_new = self._open(self._next_slot(slot, matched), number, False, size + 1) or is_new
         if not is_new:
             self._steps.pop()
+        return False
 
-    def _open(self, slot, number, is_child):
-        """Note a slot behind a step; tell whether it is new."""
-        if slot in self._known:
+    def _open(self, slot, number, is_child, size):
+        """Note a slot behind a step unless an earlier one is as good; tell whether it is noted."""
+        # Most slots come again and again, so this is asked ahead of the grades.
+        if slot in self._met:
             return False
-        self._known[slot] = True
-        self._slots.append((slot, number, is_child))
+        self._met[slot] = True
+        parent, inside, child, behind, above = slot
+        graded = [self._graded(mask) for mask in (inside, inside | child, inside | child | behind)]
+        key = (parent, graded[0][0], graded[1][0], graded[2][0])
+        width = len(self._reaching.tests)
+        merit = above
+        for _, part in graded:
+            merit = merit << width | part
+        known = self._known.get(key, [])
+        for old in known:
+            if old | merit == old:
+                return False
+        self._known[key] = [old for old in known if old | merit != merit] + [merit]
+        self._slots.append((slot, number, is_child, size))
         return True
 
     def _inner_slot(self, slot, kind, matched):
         """Return the slot of the first child of an element in a slot."""
         inside, child, _ = self._led(matched)
-        told = self._question.handed(matched, slot[4])
+        told = self._goal.handed(matched, slot[4])
         return self._plain_slot((kind, slot[1] | inside, child, 0, told))
 
     def _next_slot(self, slot, matched):
@@ -134,10 +164,10 @@ class Walk:
             self._moot_masks[key] = moot
         return self._moot_masks[key]
 
-    def shown_by(self, answer):
-        """Return (tree, place) for an answer that was found: its last element gives it."""
+    def _shown(self):
+        """Return (tree, place) for the last step: its element shows the goal."""
         steps = []
-        number = self.found[answer]
+        number = len(self._steps) - 1
         while number >= 0:
             steps.append(self._steps[number])
             number = self._steps[number][0]

@@ -284,5 +284,76 @@ class UsualTest(unittest.TestCase):
         self.assertEqual(idle_rows(sheet, grammar), [0, 1])
 
 
+FOUR_MARKS = [f"*.{letter}w *.{letter}x *.{letter}y *.{letter}z" for letter in "abcdefghijkl"]
+
+
+class FullSheetTest(unittest.TestCase):
+    """Twelve rows, each with marks of its own in all of its four tests."""
+
+    def setUp(self):
+        self.usual = Grammar.usual()
+
+    def sheet(self, *values):
+        """A sheet with these values, again and again."""
+        return Sheet([f"{text}: {values[at % len(values)]}" for at, text in enumerate(FOUR_MARKS)])
+
+    def test_a_row_that_always_wins(self):
+        for value, last in (("size 2", "*: size 1 firm"), ("wide 3", "*: wide 0 firm"),
+                            ("drop 1", "*: drop 3 firm"), ("face 2", "*: face 1 firm")):
+            lines = list(self.sheet(value))[:11] + [last]
+            needless = list(range(11))
+            self.assertEqual(needless_rows(Sheet(lines), self.usual), needless)
+            self.assertEqual(idle_rows(Sheet(lines), self.usual), needless)
+            tree, place = tree_won(Sheet(lines), self.usual, 11)
+            self.assertEqual((tree, place), (("doc", "", ()), ()))
+            self.assertEqual(len(possible_styles(Sheet(lines), self.usual, "em")), 1)
+            self.assertIsNone(first_parting(Sheet(lines), Sheet([last]), self.usual))
+        # What is always the default needs no row at all.
+        lines = list(self.sheet("size 2"))[:5] + ["*: size 1 firm"]
+        self.assertEqual(least_rows(Sheet(lines), self.usual), ())
+        lines = list(self.sheet("size 2"))[:5] + ["*: size 3 firm"]
+        self.assertEqual(least_rows(Sheet(lines), self.usual), (5,))
+
+    def test_two_rows_that_together_always_win(self):
+        lines = list(self.sheet("size 2"))[:10] + ["* *: size 3 firm", "doc: size 1 firm"]
+        self.assertEqual(needless_rows(Sheet(lines), self.usual), list(range(10)) + [11])
+        self.assertEqual(idle_rows(Sheet(lines), self.usual), list(range(10)))
+        kinds = ["head", "par", "em", "note", "fig", "see", "doc"]
+        lines = list(self.sheet("drop 1"))[:5] + [f"{kind}: drop 2 firm" for kind in kinds]
+        self.assertEqual(needless_rows(Sheet(lines), self.usual), [0, 1, 2, 3, 4, 5, 6, 11])
+
+    def test_rows_that_give_what_is_there_anyhow(self):
+        for value in ("size 1", "face 0", "indent 0", "drop 0"):
+            sheet = self.sheet(value)
+            self.assertEqual(needless_rows(sheet, self.usual), list(range(12)))
+            self.assertIsNone(first_parting(sheet, Sheet([]), self.usual))
+            self.assertEqual(idle_rows(sheet, self.usual), [])
+
+    def test_the_order_makes_no_difference(self):
+        for values in (("size 2",), ("size 2", "size 3"), ("drop 1", "drop 2", "drop 3"), ("wide 1", "face 2")):
+            sheet = self.sheet(*values)
+            turned = Sheet(list(sheet)[::-1])
+            self.assertIsNone(first_parting(sheet, turned, self.usual))
+            self.assertEqual(needless_rows(sheet, self.usual), [])
+
+    def test_one_row_more(self):
+        sheet = self.sheet("size 2", "size 3")
+        tree, place, name = first_parting(sheet, sheet.without([7]), self.usual)
+        self.assertEqual((len(oracles.places_of(tree)), place, name), (4, (0, 0, 0), "size"))
+        tree, place = tree_won(sheet, self.usual, 7)
+        self.assertEqual(len(oracles.places_of(tree)), 4)
+        tree, place = tree_with_style(sheet, self.usual, "em", (0, 3, 0, 0, 0, 0))
+        self.assertEqual(len(oracles.places_of(tree)), 4)
+        told = [(0, size, 0, 0, 0, 0) for size in (1, 2, 3)]
+        self.assertEqual(possible_styles(sheet, self.usual, "em"), told)
+
+    def test_behind_and_inside(self):
+        texts = [f"*.{letter}w + *.{letter}x > *.{letter}y + *.{letter}z" for letter in "abcdefghijk"]
+        sheet = Sheet([f"{text}: wide 1" for text in texts] + ["*: wide 0 firm"])
+        self.assertEqual(needless_rows(sheet, self.usual), list(range(11)))
+        self.assertEqual(needless_rows(sheet.without([11]), self.usual), [])
+        self.assertEqual(needless_rows(sheet.only([0, 1, 11]), self.usual), [0, 1])
+
+
 if __name__ == "__main__":
     unittest.main()
