@@ -40,6 +40,10 @@ type typing typing_extensions enum Enum IntEnum StrEnum Flag IntFlag Generic Pro
 namedtuple NamedTuple TypedDict TYPE_CHECKING abstractmethod dataclass overload contextmanager
 """.split())
 
+BARRED_BEGINNINGS = (
+    "_wall", "_pe_", "_dcw_", "_enum_", "_cm_", "_twin_re_", "_lay_", "_law_", "_stub_", "_sre",
+)
+
 BARRED_NODES = (
     ast.GeneratorExp, ast.Global, ast.AsyncFunctionDef, ast.Await, ast.AsyncFor, ast.AsyncWith,
     ast.SetComp, ast.Set, ast.Div, ast.AnnAssign,
@@ -184,6 +188,7 @@ class FormTest(unittest.TestCase):
                 told.append(node.name)
             for word in told:
                 self.assertNotIn(word, barred, name)
+                self.assertFalse(word.startswith(BARRED_BEGINNINGS), (name, word))
                 self.assertTrue(not word.startswith("__") or word in DOUBLE, (name, word))
             if isinstance(node, ast.Name) and isinstance(node.ctx, ast.Load):
                 self.assertNotEqual(node.id, "_", name)
