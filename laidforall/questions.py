@@ -81,9 +81,36 @@ def _chain_mask(reaching, patterns):
     whole = 0
     chain = 0
     for pattern in patterns:
-        whole |= reaching.bit_of(pattern)
-        chain |= reaching.chain_of(pattern)
+        bits = reaching.bits_of(pattern)
+        whole |= bits[-1]
+        for bit in bits:
+            chain |= bit
     return whole, chain
+
+
+def _left_marks(reaching, patterns):
+    """Return what each beginning of some patterns leaves to be passed, itself counted.
+
+    The list has triples (mask of the beginning, marks of the tests that are
+    left, marks without that of the last test), the shortest beginning first.
+    """
+    found = []
+    for pattern in patterns:
+        marks = [mark for _, mark in pattern.tests]
+        for at, bit in enumerate(reaching.bits_of(pattern)):
+            found.append((bit, marks[at:], marks[at:-1]))
+    return found
+
+
+def _many_with_marks(lists):
+    """Return how many elements are needed at least to have the marks of each of some lists."""
+    wanted = {}
+    for marks in lists:
+        for mark in marks:
+            if mark != "":
+                wanted[mark] = max(wanted.get(mark, 0), marks.count(mark))
+    # Elements with different marks are different ones.
+    return sum(list(wanted.values()))
 
 
 class Goal:
@@ -102,6 +129,7 @@ class Goal:
         self.above = 0
         self._needed = 0
         self._parts = []
+        self._chains = []
         every = 0
         handed = 0
         for number, choice in enumerate(choices):
@@ -115,6 +143,7 @@ class Goal:
         """Note the masks of a choice; return the mask of all its patterns."""
         chosen = [] if choice.good is None else [choice.good]
         good, helpful = _chain_mask(self.reaching, chosen)
+        self._chains.append((1 << number, _left_marks(self.reaching, chosen)))
         strong, harmful = _chain_mask(self.reaching, choice.strong)
         other, harmful_below = _chain_mask(self.reaching, choice.other)
         self.helpful |= helpful
@@ -147,6 +176,19 @@ class Goal:
     def is_shown(self, kind, matched, above):
         """Tell whether all choices hold at an element of a wanted kind."""
         return kind in self.wanted and self._held(matched, above) == (1 << len(self._parts)) - 1
+
+    def least_left(self, allowed, above):
+        """Return how many elements are needed at least where some beginnings are allowed."""
+        whole = []
+        inner = []
+        for bit, chain in self._chains:
+            left = [entry for entry in chain if allowed & entry[0]]
+            if left and not above & bit:
+                whole.append(left[-1][1])
+                inner.append(left[-1][2])
+        # The last element passes at most the last test of each chosen row.
+        most = max([len(marks) for marks in whole], default=1)
+        return max(most, _many_with_marks(whole), 1 + _many_with_marks(inner))
 
     def can_be_shown(self):
         """Tell whether some element can pass the last tests that it must pass."""

@@ -41,16 +41,9 @@ class Reaching:
         self.firsts = 0
         self._numbers = {}
 
-    def bit_of(self, pattern):
-        """Return the bit of a whole pattern; its beginnings are added if they are new."""
-        return 1 << self._beginnings(pattern)[-1]
-
-    def chain_of(self, pattern):
-        """Return the mask of all beginnings of a pattern; those that are new are added."""
-        mask = 0
-        for number in self._beginnings(pattern):
-            mask |= 1 << number
-        return mask
+    def bits_of(self, pattern):
+        """Return the bits of all beginnings of a pattern, the whole one last; new ones are added."""
+        return [1 << number for number in self._beginnings(pattern)]
 
     def _beginnings(self, pattern):
         """Return the numbers of the beginnings of a pattern, the shortest first."""

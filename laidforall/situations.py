@@ -13,25 +13,65 @@ def possible_styles(sheet, grammar, kind):
     """Return the list of the styles that are possible for a kind, in order."""
     if kind not in grammar:
         raise Unknown(kind)
-    found = {}
-    _add_styles(grammar, kind, [], style_choices(sheet), found)
-    return sorted(found)
+    return sorted(StyleSearch(sheet, grammar, kind).styles)
 
 
-def _add_styles(grammar, kind, chosen, left, found):
-    """Note the styles of all choices that begin with those chosen and can hold together."""
-    style = tuple([choice.value for choice in chosen])
-    if not left and style in found:
-        return
-    # A property without rows takes part in no goal, so nothing new is asked.
-    is_asked = not chosen or chosen[-1].good is not None or chosen[-1].other != []
-    if is_asked and _shown_first(grammar, [style_goal(grammar, kind, chosen)], None) is None:
-        return
-    if not left:
-        found[style] = True
-        return
-    for choice in left[0]:
-        _add_styles(grammar, kind, chosen + [choice], left[1:], found)
+class StyleSearch:
+    """A search for all styles of a kind; the attribute styles has them as keys.
+
+    A pick is a pair (number of a property, number of one of its choices).
+    """
+
+    def __init__(self, sheet, grammar, kind):
+        self._grammar = grammar
+        self._kind = kind
+        self._choices = style_choices(sheet)
+        self._clashes = []
+        self.styles = {}
+        self._add([])
+
+    def _add(self, picks):
+        """Note the styles of all choices that begin with some picks and can hold together."""
+        if not self._can_hold(picks):
+            return
+        if len(picks) == len(self._choices):
+            self.styles[self._values(picks)] = True
+            return
+        for number in range(len(self._choices[len(picks)])):
+            self._add(picks + [(len(picks), number)])
+
+    def _values(self, picks):
+        """Return the tuple of the values of some picks."""
+        return tuple([self._choices[at][number].value for at, number in picks])
+
+    def _can_hold(self, picks):
+        """Tell whether some picks can hold together, if all but the last one can, and tell anything new."""
+        if self._values(picks) in self.styles:
+            return False
+        # A property without rows has one choice, which always holds.
+        if picks and len(self._choices[picks[-1][0]]) == 1:
+            return True
+        for clash in self._clashes:
+            if all([pick in picks for pick in clash]):
+                return False
+        if self._are_shown(picks):
+            return True
+        self._clashes.append(self._least_clash(picks))
+        return False
+
+    def _are_shown(self, picks):
+        """Tell whether some picks hold together at an element."""
+        chosen = [self._choices[at][number] for at, number in picks]
+        return _shown_first(self._grammar, [style_goal(self._grammar, self._kind, chosen)], None) is not None
+
+    def _least_clash(self, picks):
+        """Return those of some picks that cannot hold together without the other ones either."""
+        clash = picks
+        for pick in picks:
+            fewer = [other for other in clash if other != pick]
+            if not self._are_shown(fewer):
+                clash = fewer
+        return clash
 
 
 def tree_with_style(sheet, grammar, kind, style):

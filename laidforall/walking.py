@@ -6,13 +6,16 @@ beginnings that an element there may match because of what stands around it,
 because of its parent and because of its elder sibling, and what the parent
 hands down. What can follow hangs on the slot alone. An element in a slot
 opens a slot among its own children and one behind it. So each tree that is
-met grows by one element at a time, and the first one that shows something has
-the fewest elements.
+met grows by one element at a time.
 
-The walk is made for a goal (see questions.py). A slot is left out if an
-earlier one is at least as good: if more of what is helpful, and less of what
-is harmful, may be matched there and has been handed down.
+The walk is made for a goal (see questions.py), and goes on from the slot with
+the fewest elements, those counted that are needed at least. A slot is left
+out if another one is at least as good: if it has no more elements, and if more
+of what is helpful, and less of what is harmful, may be matched there and has
+been handed down.
 """
+
+from heapq import heappop, heappush
 
 from laidforall.patterns import BEHIND, CHILD, INSIDE, LINKS
 from laidforall.reaching import Prospects, kinds_below
@@ -38,6 +41,7 @@ class Walk:
             self._ends |= goal.ends[kind]
         self._steps = []
         self._slots = []
+        self._queue = []
         self._met = {}
         self._known = {}
         self._moot_masks = {}
@@ -46,14 +50,12 @@ class Walk:
     def found(self, most=None):
         """Return (tree, place) for the goal, with at most this many elements, or None."""
         self._open(("", self._reaching.firsts, 0, 0, self._goal.above), -1, True, 0)
-        at = 0
-        while at < len(self._slots):
-            size = self._slots[at][3]
-            if most is not None and size >= most:
+        while self._queue:
+            size, order = heappop(self._queue)
+            if most is not None and size > most:
                 return None
-            if self._fill(at):
+            if self._fill(-order):
                 return self._shown()
-            at += 1
         return None
 
     def _fill(self, at):
@@ -102,9 +104,9 @@ class Walk:
     def _open(self, slot, number, is_child, size):
         """Note a slot behind a step unless an earlier one is as good; tell whether it is noted."""
         # Most slots come again and again, so this is asked ahead of the grades.
-        if slot in self._met:
+        if self._met.get(slot, size + 1) <= size:
             return False
-        self._met[slot] = True
+        self._met[slot] = size
         parent, inside, child, behind, above = slot
         graded = [self._graded(mask) for mask in (inside, inside | child, inside | child | behind)]
         key = (parent, graded[0][0], graded[1][0], graded[2][0])
@@ -113,12 +115,21 @@ class Walk:
         for _, part in graded:
             merit = merit << width | part
         known = self._known.get(key, [])
-        for old in known:
-            if old | merit == old:
+        for old, old_size in known:
+            if old | merit == old and old_size <= size:
                 return False
-        self._known[key] = [old for old in known if old | merit != merit] + [merit]
-        self._slots.append((slot, number, is_child, size))
+        better = [pair for pair in known if pair[0] | merit != merit or pair[1] < size]
+        self._known[key] = better + [(merit, size)]
+        self._add_slot(slot, number, is_child, size)
         return True
+
+    def _add_slot(self, slot, number, is_child, size):
+        """Add a slot to those from which the walk goes on."""
+        _, inside, child, behind, above = slot
+        left = self._goal.least_left(inside | child | behind, above)
+        # Of slots with as many elements, the one that was opened last comes first.
+        heappush(self._queue, (size + left, -len(self._slots)))
+        self._slots.append((slot, number, is_child, size))
 
     def _inner_slot(self, slot, kind, matched):
         """Return the slot of the first child of an element in a slot."""

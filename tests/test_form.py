@@ -40,6 +40,8 @@ type typing typing_extensions enum Enum IntEnum StrEnum Flag IntFlag Generic Pro
 namedtuple NamedTuple TypedDict TYPE_CHECKING abstractmethod dataclass overload contextmanager
 """.split())
 
+LIBRARY = {"heapq": ("heappush", "heappop")}
+
 BARRED_BEGINNINGS = (
     "_wall", "_pe_", "_dcw_", "_enum_", "_cm_", "_twin_re_", "_lay_", "_law_", "_stub_", "_sre",
 )
@@ -127,7 +129,11 @@ class FormTest(unittest.TestCase):
                     defined[module].add(node.targets[0].id)
         for name, node in self.all_nodes():
             self.assertNotIsInstance(node, ast.Import, name)
-            if isinstance(node, ast.ImportFrom):
+            if isinstance(node, ast.ImportFrom) and node.module in LIBRARY:
+                for alias in node.names:
+                    self.assertIsNone(alias.asname)
+                    self.assertIn(alias.name, LIBRARY[node.module], name)
+            elif isinstance(node, ast.ImportFrom):
                 needed.setdefault(f"{PACKAGE}.{name[:-3]}", []).append(node.module)
                 for alias in node.names:
                     self.assertIsNone(alias.asname)
@@ -190,6 +196,8 @@ class FormTest(unittest.TestCase):
                 self.assertNotIn(word, barred, name)
                 self.assertFalse(word.startswith(BARRED_BEGINNINGS), (name, word))
                 self.assertTrue(not word.startswith("__") or word in DOUBLE, (name, word))
+            if isinstance(node, ast.ClassDef):
+                self.assertRegex(node.name, "^[A-Za-z]")
             if isinstance(node, ast.Name) and isinstance(node.ctx, ast.Load):
                 self.assertNotEqual(node.id, "_", name)
 

@@ -11,6 +11,7 @@ from laidforall.sheets import Sheet
 from laidforall.situations import (
     first_parting, idle_rows, least_rows, needless_rows, possible_styles, tree_with_style, tree_won,
 )
+from laidforall.styles import style_of
 
 PROPERTIES = oracles.PROPERTY_NAMES
 
@@ -346,6 +347,32 @@ class FullSheetTest(unittest.TestCase):
         self.assertEqual(len(oracles.places_of(tree)), 4)
         told = [(0, size, 0, 0, 0, 0) for size in (1, 2, 3)]
         self.assertEqual(possible_styles(sheet, self.usual, "em"), told)
+
+    def all_properties(self, link):
+        """Two rows for each property, each with marks of its own."""
+        told = ("face 1", "face 2", "size 2", "size 3", "wide 1", "wide 2",
+                "drop 1", "drop 2", "indent 1", "indent 2", "before 1", "before 2")
+        return Sheet([link.join(f"*.{letter}{end}" for end in "wxy") + f"{link}*: {value}"
+                      for letter, value in zip("abcdefghijkl", told)])
+
+    def test_rows_of_all_properties(self):
+        sheet = self.all_properties(" ")
+        every = itertools.product(range(3), range(1, 4), *[range(3)] * 4)
+        self.assertEqual(possible_styles(sheet, self.usual, "em"), list(every))
+        self.assertEqual(possible_styles(sheet, self.usual, "note"), [(0, 1, 0, 0, 0, 0)])
+        for link, many, needless in ((" ", 19, [8, 9, 10, 11]), (" > ", None, [8, 9, 10, 11]), (" + ", None, [])):
+            sheet = self.all_properties(link)
+            found = tree_with_style(sheet, self.usual, "em", (2, 3, 2, 2, 2, 2))
+            self.assertEqual(found and len(oracles.places_of(found[0])), many)
+            self.assertEqual(needless_rows(sheet, self.usual), needless)
+            self.assertEqual(idle_rows(sheet, self.usual), [])
+
+    def test_rows_of_the_same_values(self):
+        names = ("face 1", "size 2", "wide 1", "drop 1", "indent 1", "before 1")
+        lines = [f"*.{letter}w *.{letter}x *.{letter}y *: {names[at // 2]}" for at, letter in enumerate("abcdefghijkl")]
+        tree, place = tree_with_style(Sheet(lines), self.usual, "em", (1, 2, 1, 1, 1, 1))
+        self.assertEqual(len(oracles.places_of(tree)), 19)
+        self.assertEqual(style_of(Sheet(lines), tree, place), (1, 2, 1, 1, 1, 1))
 
     def test_behind_and_inside(self):
         texts = [f"*.{letter}w + *.{letter}x > *.{letter}y + *.{letter}z" for letter in "abcdefghijk"]
