@@ -2,9 +2,10 @@
 
 from laidforall.agreeing import DoubleFronts
 from laidforall.fronts import Fronts
+from laidforall.grounds import OUTSIDE
 from laidforall.layings import START
 from laidforall.numbering import Best
-from laidforall.presses import NEW_BLOCK
+from laidforall.presses import BLANK_BORDER
 from laidforall.promises import first_breaking
 
 
@@ -36,42 +37,53 @@ class Broken(Verdict):
         return False
 
 
-class _Search:
+class Search:
     """All pairs of the case of the last block and the front of tellings, by their length.
 
-    The argument reader has the methods of DoubleFronts. The attribute pairs
-    lists the pairs that were found; each was reached by a read from another
-    one.
+    The argument reader has the methods of Fronts, or of DoubleFronts, with
+    which a telling is read. The attribute pairs lists the pairs that were found.
     """
 
     def __init__(self, reader):
         self.pairs = []
         self._reader = reader
+        # Each pair was reached by a read from another one.
         self._sources = {}
+        self._ends = {}
 
     def first_telling(self, is_wanted):
         """Return a shortest telling whose case and front are wanted, or None if there is none."""
-        for case, shape in self._reader.all_starts():
-            pair = (case, self._reader.start(case, shape))
-            if self._is_new(pair, (None, (NEW_BLOCK, case, shape))) and is_wanted(pair):
-                return self._telling(pair)
+        reader = self._reader
+        found = self._note_all(None, OUTSIDE, reader.origin, reader.press.start_reads(), is_wanted)
         at = 0
-        while at < len(self.pairs):
-            case, front = self.pairs[at]
-            for read in self._reader.reads_behind(case):
-                pair = (read[1], self._reader.read(case, front, read))
-                if self._is_new(pair, (self.pairs[at], read)) and is_wanted(pair):
-                    return self._telling(pair)
+        while found is None and at < len(self.pairs):
+            pair = self.pairs[at]
+            found = self._note_all(pair, pair[0], pair[1], reader.press.inner_reads(pair[0]), is_wanted)
+            if found is None:
+                found = self._note_blocks(pair, is_wanted)
             at += 1
+        return None if found is None else self._telling(found)
+
+    def _note_all(self, source, place, front, reads, is_wanted):
+        """Note the pairs behind some reads; return the first new one that is wanted, or None."""
+        for read in reads:
+            pair = (read[2], self._reader.read(place, front, read))
+            if pair not in self._sources:
+                self._sources[pair] = (source, read)
+                self.pairs.append(pair)
+                if is_wanted(pair):
+                    return pair
         return None
 
-    def _is_new(self, pair, source):
-        """Note a pair with its source; tell whether it is new."""
-        if pair in self._sources:
-            return False
-        self._sources[pair] = source
-        self.pairs.append(pair)
-        return True
+    def _note_blocks(self, pair, is_wanted):
+        """Note the pairs with a further block; return the first new one that is wanted, or None."""
+        case, front = pair
+        end = (self._reader.press.end_of(case), self._reader.ended(case, front))
+        # What may follow behind an end is the same for all pairs that come to it.
+        if end in self._ends:
+            return None
+        self._ends[end] = True
+        return self._note_all(pair, end[0], end[1], self._reader.press.block_reads(end[0]), is_wanted)
 
     def _telling(self, pair):
         """Return the telling that led to a pair."""
@@ -81,18 +93,18 @@ class _Search:
             reads.append(read)
         reads.reverse()
         telling = []
-        for border, case, shape in reads:
-            if border == NEW_BLOCK:
-                telling.append((case, (shape,)))
-            else:
+        for border, _, case, shape in reads:
+            if border == BLANK_BORDER:
                 telling[-1] = (case, telling[-1][1] + (shape,))
+            else:
+                telling.append((case, (shape,)))
         return tuple(telling)
 
 
 def judge(family, book, promise):
     """Return the verdict whether all tellings of a family keep a promise."""
     fronts = Fronts(family, book, promise)
-    search = _Search(fronts)
+    search = Search(fronts)
     telling = search.first_telling(lambda pair: fronts.breaks(pair[0], pair[1]))
     if telling is None:
         return Kept(search.pairs)
@@ -102,17 +114,25 @@ def judge(family, book, promise):
 def is_closed(family, book, promise, table):
     """Tell whether a list of pairs (case, front) is closed."""
     fronts = Fronts(family, book, promise)
+    press = fronts.press
     held = {pair: True for pair in table}
-    for case, shape in fronts.all_starts():
-        if (case, fronts.start(case, shape)) not in held:
+    if not _are_held(held, fronts, OUTSIDE, fronts.origin, press.start_reads()):
+        return False
+    ends = {}
+    for case, front in table:
+        if fronts.breaks(case, front) or not _are_held(held, fronts, case, front, press.inner_reads(case)):
             return False
-    for case, front in held:
-        if fronts.breaks(case, front):
-            return False
-        for read in fronts.reads_behind(case):
-            if (read[1], fronts.read(case, front, read)) not in held:
+        end = (press.end_of(case), fronts.ended(case, front))
+        if end not in ends:
+            ends[end] = True
+            if not _are_held(held, fronts, end[0], end[1], press.block_reads(end[0])):
                 return False
     return True
+
+
+def _are_held(held, fronts, place, front, reads):
+    """Tell whether the pairs behind some reads are all among those held."""
+    return all([(read[2], fronts.read(place, front, read)) in held for read in reads])
 
 
 def _odd_laying(one, other):
@@ -133,22 +153,12 @@ def _odd_laying(one, other):
     return None
 
 
-def _telling_book(family, book):
-    """Return a book that gives all tellings the same best layings, without what makes no difference."""
-    keep = book.keep if any([case[3] for case in family.cases]) else 0
-    has_joints = any([len(shape) > 1 for case in family.cases for shape in case[6]])
-    joint = book.joint if has_joints else 0
-    return book.changed(joint=joint, keep=keep, wait=0, columns=1, gutter=1, full=False)
-
-
 def compare_books(family, first, second):
     """Return (telling, laying) for which two books differ, or None if they agree."""
-    one_book = _telling_book(family, first)
-    other_book = _telling_book(family, second)
-    if one_book == other_book:
+    doubles = DoubleFronts(family, first, second)
+    if doubles.are_costs_alike():
         return None
-    doubles = DoubleFronts(family, one_book, other_book)
-    telling = _Search(doubles).first_telling(lambda pair: doubles.differs(pair[1]))
+    telling = Search(doubles).first_telling(lambda pair: doubles.differs(pair[1]))
     if telling is None:
         return None
     galley = family.galley_of(telling)

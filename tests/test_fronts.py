@@ -116,7 +116,7 @@ class FrontTest(unittest.TestCase):
                 for first, second in zip(self.longer(family, case, one), self.longer(family, case, other)):
                     self.assertEqual(fronts.front_of(first), fronts.front_of(second))
                     self.assertEqual(breaks(family, book, promise, first), breaks(family, book, promise, second))
-        self.assertGreater(met, 100)
+        self.assertGreater(met, 60)
 
     def longer(self, family, case, telling):
         """The telling itself, and with one and two further shapes or blocks."""

@@ -92,6 +92,22 @@ class JudgeTest(unittest.TestCase):
         self.assertTrue(is_closed(family, Book(6, 4, joint=1, keep=6, orphan=3, widow=3), ("empty", 4), verdict.table))
 
 
+    def test_a_promise_that_is_kept_by_far(self):
+        # Ever so many choices are about as good, but none of them leaves five units free.
+        family = Family(((1, 0, 0, True, 0, 0, ((1,), (2,), (1, 2, 1))),), (0,), ((0,),))
+        book = Book(6, 4, joint=1, keep=2, orphan=3, widow=4)
+        verdict = judge(family, book, ("loose", 4))
+        self.assertTrue(verdict)
+        self.assertLess(len(verdict.table), 1000)
+        self.assertTrue(is_closed(family, book, ("loose", 4), verdict.table))
+        for promise in (("loose", 1), ("empty", 1), ("orphan",), ("widow",), ("keep",)):
+            verdict = judge(family, book, promise)
+            self.assertFalse(verdict)
+            self.assertIsNotNone(verdict.laying)
+            for shorter in tellings(family, min(4, length_of(verdict.telling) - 1)):
+                self.assertFalse(breaks(family, book, promise, shorter))
+
+
 class TableTest(unittest.TestCase):
     def test_tables_hold_all_pairs_and_no_others(self):
         rnd = samples.chance(167)
@@ -173,6 +189,18 @@ class CompareTest(unittest.TestCase):
         self.assertIsNone(compare_books(STEADY, book, Book(5, 3, joint=2, keep=3)))
         for told in ({"wait": 5}, {"columns": 2}, {"gutter": 9}, {"full": True}):
             self.assertIsNone(compare_books(STEADY, book, book.changed(**told)))
+
+    def test_costs_that_no_laying_can_avoid(self):
+        rnd = samples.chance(168)
+        shapes = [tuple(tuple(rnd.randint(1, 9) for _ in range(3)) for _ in range(3)) for _ in range(12)]
+        cases = tuple((rnd.randint(1, 2), 0, 0, False, 1, 0, shapes[at]) for at in range(12))
+        every = tuple(range(12))
+        family = Family(cases, every, (every,) * 12)
+        book = Book(6, 4, joint=2, orphan=3, widow=1, over=50)
+        # Each word that is too wide stands alone, with whatever else.
+        self.assertIsNone(compare_books(family, book, book.changed(over=2)))
+        self.assertIsNone(compare_books(family, book, book.changed(keep=6)))
+        self.assertIsNotNone(compare_books(family, book, book.changed(orphan=0)))
 
     def test_short_and_longer_tellings(self):
         # With the other shape first, one room holds a word whole and the other one does not.
