@@ -1,9 +1,7 @@
 """Layings: how a galley is broken into lines and columns, and what that costs."""
 
 from laidforall.errors import BadLaying
-from laidforall.steps import (
-    JOINT_TIE, Steps, gap_in, indent_of, natural_width, price_of_line,
-)
+from laidforall.steps import JOINT_TIE, Steps, gap_in, indent_of, natural_width, price_of_line
 
 START = (0, 0, 0, False)
 

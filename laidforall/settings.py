@@ -16,7 +16,7 @@ class Setting:
         return Setting(self.grammar, self.sheet, self.faces, self.joints, self.book)
 
 
-class _Before:
+class Before:
     """The sheet and the book that a setting had, and what was kept before them."""
 
     def __init__(self, sheet, book, below):
@@ -36,7 +36,7 @@ class Changed:
 
     def __enter__(self):
         setting = self._setting
-        self._before = _Before(setting.sheet, setting.book, self._before)
+        self._before = Before(setting.sheet, setting.book, self._before)
         if self._sheet is not None:
             setting.sheet = self._sheet
         if self._book is not None:

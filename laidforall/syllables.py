@@ -66,7 +66,7 @@ def _all_spots(letters):
     return [(left, right) for left in sides for right in sides if left + right != ""]
 
 
-class _Stretches:
+class Stretches:
     """The heaviest stretches from each spot to the next border.
 
     The attribute heaviest maps spots to pairs (weight, next spot); all_told
@@ -129,14 +129,14 @@ class _Stretches:
 
 def heaviest_syllable(joints, letters, weight):
     """Return (weight, syllable, word) for a heaviest syllable, or None if there is none."""
-    stretches = _Stretches(joints, letters, weight)
+    stretches = Stretches(joints, letters, weight)
     # A spot without a heaviest stretch leads in a circle without a joint.
     if not stretches.all_told:
         return None
     return stretches.best()
 
 
-class _Setter:
+class Setter:
     """What setting a word in lines comes to, letter by letter.
 
     A situation is a tuple (left, right, only, last): a spot, the width of the
@@ -200,7 +200,7 @@ class _Setter:
 
 def overflow(joints, letters, weight, *, hyphen, room, first):
     """Return the first of the shortest words that cannot be set, or None."""
-    setter = _Setter(joints, weight, hyphen, room, first)
+    setter = Setter(joints, weight, hyphen, room, first)
     start = ("", "", 0, None)
     known = {start: True}
     queue = [(start, "")]

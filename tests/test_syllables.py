@@ -39,11 +39,19 @@ class PartingTest(unittest.TestCase):
         self.assertEqual(answers, {False, True})
 
     def test_three_letters(self):
-        for first, second in ((["a-bca"], ["a-bc?"]), (["-c"], ["-c"]), (["ab?-?ca"], ["ab?-?cb"])):
-            first = [line for line in first if len(line) < 8]
-            second = [line for line in second if len(line) < 8]
+        rnd = samples.chance(143)
+        answers = set()
+        for _ in range(12):
+            first = random_lines(rnd, "abc", 3)
+            second = list(first)
+            rnd.shuffle(second)
+            if rnd.random() < 0.5:
+                second.append(random_row(rnd, "abc"))
             found = parting_word(Joints(first), Joints(second), "abc")
-            self.assertEqual(found, self.search(first, second, "abc"))
+            self.assertEqual(found, self.search(first, second, "abc"), (first, second))
+            answers.add(found is None)
+        self.assertEqual(answers, {False, True})
+        self.assertEqual(parting_word(Joints(["c?a-?cb"]), Joints([]), "abc"), ("caaacb", 3))
 
     def test_the_last_of_six_letters(self):
         self.assertEqual(parting_word(Joints(["bab-aba"]), Joints([]), "ab"), ("bababa", 3))
