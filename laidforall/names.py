@@ -1,6 +1,8 @@
-"""The characters and names that trees and patterns are made of."""
+"""The characters, names and numbers that written things are made of."""
 
 LONGEST_NAME = 8
+
+LONGEST_NUMBER = 12
 
 PERCENT = 37
 
@@ -26,3 +28,17 @@ def name_end(text, start):
 def is_name(text):
     """Tell whether a string is a name."""
     return text != "" and name_end(text, 0) == len(text)
+
+
+def _is_digit(char):
+    """Tell whether a character is a digit."""
+    return "0" <= char <= "9"
+
+
+def read_number(word):
+    """Return the number that is written so, without leading zeros, or None."""
+    if not 1 <= len(word) <= LONGEST_NUMBER or word[0] == "0" and word != "0":
+        return None
+    if not all([_is_digit(char) for char in word]):
+        return None
+    return int(word)

@@ -116,66 +116,84 @@ def _many_with_marks(lists):
 class Goal:
     """An element of a wanted kind at which some choices hold together.
 
+    There may be outer choices besides: they hold at the container around the
+    element, the only element of one of the kinds of containers there. Within
+    the container, only elements of wanted kinds stand.
+
     The attributes helpful and harmful are the masks of the beginnings that
     the chosen rows need, and of those that stand in their way; above has a bit
     for each choice that holds already at the root.
     """
 
-    def __init__(self, grammar, choices, wanted):
+    def __init__(self, grammar, choices, wanted, outer=(), containers=()):
         self.reaching = Reaching()
         self.wanted = wanted
         self.helpful = 0
         self.harmful = 0
         self.above = 0
+        self._containers = containers
         self._needed = 0
         self._parts = []
         self._chains = []
-        every = 0
-        handed = 0
-        for number, choice in enumerate(choices):
-            mask = self._add_choice(number, choice)
-            every |= mask
-            if choice.is_handed:
-                handed |= mask
-        self.ends = {kind: every if kind in wanted else handed for kind in grammar}
+        self.ends = {kind: 0 for kind in grammar}
+        for choice in choices:
+            self._add_choice(choice, False, wanted)
+        for choice in outer:
+            self._add_choice(choice, True, containers)
+        # The bit that tells that a container has been entered.
+        self._inside = 1 << len(self._parts) if containers else 0
+        self._every = (1 << len(self._parts)) - 1 | self._inside
+        self._outer = self._every & ~((1 << len(choices)) - 1)
 
-    def _add_choice(self, number, choice):
-        """Note the masks of a choice; return the mask of all its patterns."""
+    def _add_choice(self, choice, is_outer, places):
+        """Note the masks of a choice that is to hold at an element of one of these kinds."""
+        bit = 1 << len(self._parts)
         chosen = [] if choice.good is None else [choice.good]
         good, helpful = _chain_mask(self.reaching, chosen)
-        self._chains.append((1 << number, _left_marks(self.reaching, chosen)))
+        self._chains.append((bit, _left_marks(self.reaching, chosen)))
         strong, harmful = _chain_mask(self.reaching, choice.strong)
         other, harmful_below = _chain_mask(self.reaching, choice.other)
         self.helpful |= helpful
         self.harmful |= harmful | harmful_below
         if choice.good is None:
-            self.above |= 1 << number
-        if not choice.is_handed:
+            self.above |= bit
+        if not choice.is_handed and not is_outer:
             self._needed |= good
-        self._parts.append((1 << number, good, strong, other, choice.is_handed))
-        return good | strong | other
+        self._parts.append((bit, good, strong, other, choice.is_handed, is_outer))
+        for kind in self.ends:
+            if kind in places or choice.is_handed and not (is_outer and kind in self.wanted):
+                self.ends[kind] |= good | strong | other
 
-    def _held(self, matched, above):
+    def _held(self, kind, matched, above):
         """Return the mask of the choices that hold at an element."""
-        held = 0
-        for bit, good, strong, other, _ in self._parts:
-            if matched & good and not matched & strong:
+        held = above & self._inside
+        for bit, good, strong, other, _, is_outer in self._parts:
+            if is_outer and kind in self.wanted:
+                held |= above & bit
+            elif matched & good and not matched & strong:
                 held |= bit
             elif not matched & other:
                 held |= above & bit
         return held
 
-    def handed(self, matched, above):
+    def handed(self, kind, matched, above):
         """Return the mask of the choices that hold for a child as far as it changes nothing."""
-        held = self._held(matched, above)
-        for bit, _, _, _, is_handed in self._parts:
-            if not is_handed:
+        held = self._held(kind, matched, above)
+        is_within = kind in self._containers or kind in self.wanted
+        for bit, _, _, _, is_handed, is_outer in self._parts:
+            if not is_handed and not (is_outer and is_within):
                 held = held & ~bit | self.above & bit
-        return held
+        return held | self._inside if kind in self._containers else held
+
+    def is_open(self, kind, handed):
+        """Tell whether the outer choices can still hold below an element that hands something down."""
+        if kind in self._containers or kind in self.wanted:
+            return handed & self._outer == self._outer
+        return True
 
     def is_shown(self, kind, matched, above):
         """Tell whether all choices hold at an element of a wanted kind."""
-        return kind in self.wanted and self._held(matched, above) == (1 << len(self._parts)) - 1
+        return kind in self.wanted and self._held(kind, matched, above) == self._every
 
     def least_left(self, allowed, above):
         """Return how many elements are needed at least where some beginnings are allowed."""

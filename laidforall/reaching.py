@@ -86,13 +86,18 @@ class Reaching:
         """
         found = {}
         for mark in [""] + [test[1] for test in self.tests]:
-            mask = 0
-            for number, test in enumerate(self.tests):
-                if passes(test, kind, mark):
-                    mask |= 1 << number
+            mask = self.passing(kind, mark)
             if mask not in found:
                 found[mask] = mark
         return [(found[mask], mask) for mask in found]
+
+    def passing(self, kind, mark):
+        """Return the mask of the beginnings whose last test an element of a kind and mark passes."""
+        mask = 0
+        for number, test in enumerate(self.tests):
+            if passes(test, kind, mark):
+                mask |= 1 << number
+        return mask
 
 
 class Prospects:

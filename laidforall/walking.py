@@ -93,8 +93,9 @@ class Walk:
         if self._goal.is_shown(kind, matched, above):
             return True
         is_new = False
-        if self._leading[kind]:
-            is_new = self._open(self._inner_slot(slot, kind, matched), number, True, size + 1)
+        told = self._goal.handed(kind, matched, above)
+        if self._leading[kind] and self._goal.is_open(kind, told):
+            is_new = self._open(self._inner_slot(slot, kind, matched, told), number, True, size + 1)
         if slot[0] != "":
             is_new = self._open(self._next_slot(slot, matched), number, False, size + 1) or is_new
         if not is_new:
@@ -131,10 +132,9 @@ class Walk:
         heappush(self._queue, (size + left, -len(self._slots)))
         self._slots.append((slot, number, is_child, size))
 
-    def _inner_slot(self, slot, kind, matched):
-        """Return the slot of the first child of an element in a slot."""
+    def _inner_slot(self, slot, kind, matched, told):
+        """Return the slot of the first child of an element in a slot; told is handed down to it."""
         inside, child, _ = self._led(matched)
-        told = self._goal.handed(matched, slot[4])
         return self._plain_slot((kind, slot[1] | inside, child, 0, told))
 
     def _next_slot(self, slot, matched):

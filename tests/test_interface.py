@@ -27,6 +27,18 @@ FUNCTIONS = {
     "promises": ["broken_at(galley, book, laying, promise)", "first_breaking(galley, book, promise)"],
     "verdicts": ["judge(family, book, promise)", "is_closed(family, book, promise, table)",
                  "compare_books(family, first, second)"],
+    "composing": ["compose(setting, tree, numbers=())", "tokens_of(setting, tree, place, numbers=())"],
+    "placing": ["placed_signs(setting, tree, *, numbers=(), which=0)", "plate_of(placed)"],
+    "describing": ["describe(plate, faces)", "read_description(lines, faces)"],
+    "pictures": ["picture(plate, faces, page)", "drawn(ink)"],
+    "judging": ["judge_range(trees, promise)", "lay_apart(setting, sheet)", "overfull_tree(setting, letters)"],
+    "mending": ["changed_range(trees, changes, choice)", "mends(trees, promise, changes)"],
+    "facts": ["facts_of(setting, tree)", "keep_facts(setting, tree, kept)"],
+    "blame": ["stands_as(setting, tree, origin, kept)", "supports(setting, tree, origin, kept)",
+              "least_supports(setting, tree, origin)", "mover(setting, tree, origin, kept)"],
+    "pagenumbers": ["number_places(grammar, tree)", "true_numbers(setting, tree, numbers)",
+                    "settled(setting, tree)"],
+    "commands": ["write_place(place)", "read_place(word)", "write_laying(laying)"],
 }
 
 CLASSES = {
@@ -60,6 +72,11 @@ CLASSES = {
                  "Broken": ["__init__(self, telling, laying)", "__bool__"]},
     "settings": {"Setting": ["__init__(self, grammar, sheet, faces, joints, book)", "copy(self)"],
                  "Changed": ["__init__(self, setting, *, sheet=None, book=None)", "__enter__", "__exit__"]},
+    "ranges": {"Range": ["__init__(self, setting, pairs, tokens)", "tree_of(self, telling)",
+                         "telling_of(self, tree)"]},
+    "judging": {"BrokenTree": ["__init__(self, telling, laying, tree)", "__bool__"]},
+    "desk": {"Desk": ["__init__(self, setting)", "__call__(self, line)", "run(self, lines)"],
+             "Trial": ["__init__(self, desk)", "__enter__", "__exit__"]},
 }
 
 
