@@ -56,15 +56,15 @@ class Placer:
         y = 0
         for insert in column.inserts:
             y = self._put_alone(insert, page, left, y)
-        notes = []
-        for index_of_passage, start, end in column.lines:
-            passage = self._composition.passages[index_of_passage]
+        below = []
+        for number, start, end in column.lines:
+            passage = self._composition.passages[number]
             y = self._put_line_of_block(passage, start, end, page, left, y)
             first = self._composition.galley.block_at(start)[1]
             for called in passage.notes[start - first:end - first]:
-                notes.extend(called)
-        y = max(y, book.height - sum([note.tall for note in notes]))
-        for note in notes:
+                below.extend(called)
+        y = max(y, book.height - sum([note.tall for note in below]))
+        for note in below:
             y = self._put_alone(note, page, left, y)
 
     def _put_line_of_block(self, passage, start, end, page, left, y):

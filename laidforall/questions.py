@@ -160,7 +160,7 @@ class Goal:
         if not choice.is_handed and not is_outer:
             self._needed |= good
         self._parts.append((bit, good, strong, other, choice.is_handed, is_outer))
-        for kind in self.ends:
+        for kind in list(self.ends):
             if kind in places or choice.is_handed and not (is_outer and kind in self.wanted):
                 self.ends[kind] |= good | strong | other
 

@@ -46,6 +46,8 @@ BARRED_BEGINNINGS = (
     "_wall", "_pe_", "_dcw_", "_enum_", "_cm_", "_twin_re_", "_lay_", "_law_", "_stub_", "_sre",
 )
 
+CHANGING = set("append clear extend insert pop remove reverse setdefault update".split())
+
 BARRED_NODES = (
     ast.GeneratorExp, ast.Global, ast.AsyncFunctionDef, ast.Await, ast.AsyncFor, ast.AsyncWith,
     ast.SetComp, ast.Set, ast.Div, ast.AnnAssign,
@@ -61,6 +63,39 @@ def sources():
         with open(os.path.join(FOLDER, name), encoding="utf-8") as file:
             found[name] = file.read()
     return found
+
+
+def last_name(node):
+    """The name, or the last attribute, that a node reads from."""
+    if isinstance(node, ast.Subscript):
+        return last_name(node.value)
+    return getattr(node, "id", getattr(node, "attr", None))
+
+
+def iterated_names(node):
+    """The names of what a loop goes over."""
+    if isinstance(node, ast.IfExp):
+        return iterated_names(node.body) | iterated_names(node.orelse)
+    if not isinstance(node, ast.Call):
+        return {last_name(node)}
+    if isinstance(node.func, ast.Attribute) and node.func.attr in ("items", "keys", "values"):
+        return iterated_names(node.func.value)
+    if isinstance(node.func, ast.Name) and node.func.id in ("enumerate", "zip", "reversed"):
+        return set().union(*[iterated_names(part) for part in node.args])
+    return set()
+
+
+def modified_names(body):
+    """The names of what some statements change in place."""
+    for part in (part for statement in body for part in ast.walk(statement)):
+        if isinstance(part, ast.Call) and isinstance(part.func, ast.Attribute) and part.func.attr in CHANGING:
+            yield last_name(part.func.value)
+        if isinstance(part, ast.AugAssign):
+            yield last_name(part.target)
+        for target in getattr(part, "targets", []):
+            for inner in ast.walk(target):
+                if isinstance(inner, ast.Subscript) or isinstance(part, ast.Delete):
+                    yield last_name(inner)
 
 
 class FormTest(unittest.TestCase):
@@ -267,6 +302,12 @@ class FormTest(unittest.TestCase):
                     if called not in METHODS:
                         waiting.extend(owned.get(called, []))
         self.assertTrue(known)
+
+    def test_loops_do_not_change_what_they_go_over(self):
+        for name, node in self.all_nodes():
+            if isinstance(node, ast.For):
+                gone_over = iterated_names(node.iter) - {None}
+                self.assertEqual(gone_over & set(modified_names(node.body)), set(), (name, node.lineno))
 
     def is_quiet(self, node):
         told = [ast.unparse(part) for part in node.decorator_list]

@@ -14,11 +14,13 @@ from laidforall.composing import compose
 from laidforall.grammars import Grammar
 from laidforall.judging import BrokenTree, judge_range, lay_apart, overfull_tree
 from laidforall.marking import read_tree, write_tree
+from laidforall.overfilling import Scales
 from laidforall.placing import placed_signs
 from laidforall.promises import first_breaking
 from laidforall.ranges import Range
 from laidforall.sheets import Sheet
 from laidforall.situations import first_parting
+from laidforall.syllables import overflow
 from laidforall.verdicts import Broken, Kept, is_closed
 
 
@@ -236,6 +238,15 @@ class OverfullTest(unittest.TestCase):
         self.assert_overfull(told, "a", overfull_tree(told.setting(), "a"))
         self.assertIsNone(overfull_tree(told.with_book(Book(5, 9)).setting(), "a"))
 
+    def test_faces_of_span_and_block_element_together(self):
+        # Wide letters with a narrow hyphen fit, and so do narrow letters with a wide one.
+        faces = [(1, 1, {"a": (3, ())}), (1, 1, {"-": (3, ())}), (1, 1, {})]
+        told = pages.usual_plan(["par.x: face 1", "par.x em.y: face 0"], ["-"], Book(5, 9), faces)
+        self.assertEqual(overfull_tree(told.setting(), "a"), read_tree("[doc [par.x [em.y aa]]]"))
+        self.assertIsNone(overfull_tree(told.with_book(Book(6, 9)).setting(), "a"))
+        told = pages.usual_plan(["note.x: face 1", "note.x em.y: face 0"], ["-"], Book(5, 9), faces)
+        self.assertEqual(overfull_tree(told.setting(), "a"), read_tree("[doc [par [note.x [em.y aa]]a]]"))
+
     def test_notes_and_figures_have_no_indent(self):
         for kind in ("note", "fig"):
             told = pages.usual_plan([f"{kind}: indent 9", f"{kind} em: wide 1"], ["-"], Book(3, 9))
@@ -316,6 +327,17 @@ class OverfullTest(unittest.TestCase):
 
     def marked(self, rnd, tree):
         return tree[0], rnd.choice(("", "x", "y")), tuple(self.marked(rnd, child) for child in tree[2])
+
+    def test_measures_in_any_order(self):
+        rnd = samples.chance(88)
+        for rows in (["-"], ["a-"], ["a-a no", "-"], ["?b-"]):
+            told = pages.usual_plan([], rows, Book(9, 9))
+            scales = Scales(told.setting(), "ab")
+            for _ in range(60):
+                widths = (rnd.randint(1, 4), rnd.randint(1, 4))
+                hyphen, first = rnd.randint(0, 7), rnd.randint(4, 9)
+                wanted = overflow(told.setting().joints, "ab", dict(zip("ab", widths)), hyphen=hyphen, room=9, first=first)
+                self.assertEqual(scales.word((widths, hyphen, first)), wanted)
 
     def test_a_full_sheet(self):
         lines = [f"*.{letter}w *.{letter}x *.{letter}y *.{letter}z: {value}" for letter, value in

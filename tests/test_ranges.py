@@ -92,6 +92,30 @@ class RangeTest(unittest.TestCase):
         self.assertEqual(indents, [(0, 0), (2, 1), (2, 2), (2, 0), (2, 0), (0, 0), (0, 0)])
         self.assertEqual(len(trees.family.cases), 5)
 
+    def befores(self, trees, text):
+        """The room before the children that the letters of a text stand for."""
+        kinds = {"h": "head", "p": "par"}
+        tree = ("doc", "", tuple((kinds[letter], "", ("a",)) for letter in text))
+        telling = trees.telling_of(tree)
+        self.assertEqual(trees.tree_of(telling), tree)
+        return [trees.family.cases[case][2] for case, _ in telling]
+
+    def test_elder_siblings_and_the_root(self):
+        for link in ("doc > ", "doc ", "* > ", "* "):
+            trees = plain_range(f"{link}head + par: before 3", "head + head: before 1")
+            self.assertEqual(self.befores(trees, "phpphhp"), [0, 0, 3, 0, 0, 1, 3])
+        for link in ("doc.x > ", "par ", "doc doc ", "doc + "):
+            trees = plain_range(f"{link}head + par: before 3")
+            self.assertEqual(self.befores(trees, "php"), [0, 0, 0])
+
+    def test_cases_that_differ_only_in_what_may_follow(self):
+        trees = plain_range("head + par + par + par: before 4")
+        self.assertEqual(self.befores(trees, "pppphpppphppp"), [0, 0, 0, 0, 0, 0, 0, 4, 0, 0, 0, 0, 4])
+        self.assertEqual(len(trees.family.cases), 5)
+        trees = plain_range("head + par: before 4")
+        self.assertEqual(self.befores(trees, "php"), [0, 0, 4])
+        self.assertEqual(len(trees.family.cases), 3)
+
     def test_what_makes_no_difference_makes_no_cases(self):
         for lines in (["par + par: drop 2"], ["em + par: indent 2"], ["par par: indent 2"], ["doc.x > par: indent 1"],
                       ["par + par + par: face 0"], ["note em: size 2", "par em: size 3"]):
